@@ -84,6 +84,11 @@ class BeforeBeginTest(unittest.TestCase):
         told = ask(*calls, (BEGIN, 5), (TIMES, 5))
         self.assertEqual(told, [NOT_BEGUN] * len(calls) + [[5], [1]])
 
+    def test_each_call_is_read_with_just_its_numbers(self):
+        # Neither the greatest number nor 97 is a call, so a number too many or too few can't go unseen.
+        for call in self.calls(GREATEST):
+            self.assertEqual(ask(call, (BEGIN, 97)), [NOT_BEGUN, [97]], NAMES[call[0]])
+
     def test_a_prime_that_came_too_soon_is_not_kept(self):
         self.assertEqual(ask((PRIME, 7), (BEGIN, 5), (PRIME, 2)), [NOT_BEGUN, [5], [5]])
         self.assertEqual(ask((PRIME, 7), (TIMES, 7)), [NOT_BEGUN, NOT_BEGUN])
