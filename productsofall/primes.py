@@ -13,6 +13,11 @@ def is_prime(number):
     return True
 
 
+def primes_up_to(n):
+    """All primes up to n, rising."""
+    return [number for number in range(2, n + 1) if is_prime(number)]
+
+
 def prime_parts(number):
     """Each prime that divides the number, rising, with how often it does; the number is 1 at least."""
     parts = []
@@ -47,6 +52,11 @@ def how_often(prime, n):
     return often
 
 
+def how_often_from(prime, first, last):
+    """How often the prime divides all numbers from first to last, multiplied; first is 1 at least."""
+    return how_often(prime, last) - how_often(prime, first - 1)
+
+
 def what_is_left(prime, n):
     """The product of n without the prime, and what that leaves when divided by the prime once more."""
     left = 1
@@ -64,3 +74,29 @@ def noughts_at_end(base, n):
     """With how many noughts the product of n ends, written to the base."""
     # A power of the base divides only as far as the scarcest of its primes goes.
     return min([how_often(prime, n) // often for prime, often in prime_parts(base)])
+
+
+def leapt_over(prime, n):
+    """The numbers, up to how often the prime divides the product of n, that no product has just so often, rising."""
+    leapt = []
+    before = 0
+    # How often never falls from one product to the next, so no product behind n's makes up for a number left out.
+    for number in range(1, n + 1):
+        often = how_often(prime, number)
+        leapt.extend(list(range(before + 1, often)))
+        before = often
+    return leapt
+
+
+def odd_primes(n):
+    """The primes, up to n, that divide the product of n an odd number of times."""
+    return [prime for prime in primes_up_to(n) if how_often(prime, n) % 2 == 1]
+
+
+def square_divides(m, n):
+    """Whether the product of m, multiplied by itself, divides the product of n."""
+    # Prime by prime, since the product of a great n is too long to be multiplied out.
+    for prime in primes_up_to(m):
+        if 2 * how_often(prime, m) > how_often(prime, n):
+            return False
+    return True

@@ -1,5 +1,7 @@
 """The tests' own reckoning, by the document's words and by none of the program's code."""
 
+import functools
+
 from productsofall.products import answers
 
 BEGIN, PRIME, PROD, TIMES, REST, LEAST, NOUGHTS = range(7)
@@ -99,3 +101,60 @@ def noughts_written(number, base):
             break
         noughts += 1
     return noughts
+
+
+def how_often(prime, n):
+    """How often the prime divides the product of n: n is its cross sum and one less than the prime as often."""
+    return (n - sum(digits(n, prime))) // (prime - 1)
+
+
+def spanned(first, last):
+    """All numbers from first to last, multiplied."""
+    whole = 1
+    for factor in range(first, last + 1):
+        whole *= factor
+    return whole
+
+
+def all_primes_up_to(n):
+    return [p for p in range(2, n + 1) if all(p % d != 0 for d in range(2, p))]
+
+
+@functools.cache
+def never_come(prime, n):
+    """The numbers up to how often the prime divides the product of n that it divides no product just so often."""
+    most = often_and_left(prime, product(n))[0]
+    come = []
+    number = 0
+    # Until the products are divided oftener than n's is: from there on none can be divided less often.
+    while not come or come[-1] <= most:
+        come.append(often_and_left(prime, product(number))[0])
+        number += 1
+    return [often for often in range(0, most + 1) if often not in come]
+
+
+@functools.cache
+def odd_ones(n):
+    """The primes up to n that divide the product of n an odd number of times."""
+    whole = product(n)
+    return [p for p in all_primes_up_to(n) if often_and_left(p, whole)[0] % 2 == 1]
+
+
+@functools.cache
+def divides_twice(n, m):
+    """1 if the product of m, multiplied by itself, divides that of n, else 0."""
+    # The product of 200 divides that of any greater number, and all m up to 60 are settled at 200 already.
+    if n > 200:
+        if product(200) % product(m) ** 2 != 0:
+            raise AssertionError("200 is too few to tell")
+        return 1
+    return 1 if product(n) % product(m) ** 2 == 0 else 0
+
+
+def parts_of(base):
+    """Of each prime that divides the base the prime and how often, the base divided by each prime in turn."""
+    parts = []
+    for p in all_primes_up_to(base):
+        if base % p == 0:
+            parts.append((p, often_and_left(p, base)[0]))
+    return parts

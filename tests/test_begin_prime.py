@@ -3,8 +3,7 @@
 import unittest
 
 from tests.reckoning import (
-    BEGIN, GREATEST, LEAST, MILLION, NAMES, NOT_BEGUN, NOUGHTS, NUMBERS_BEHIND, OUT_OF_BOUNDS, PRIME, PRIMES,
-    PROD, REST, TIMES, ask,
+    BEGIN, GREATEST, MILLION, NAMES, NOT_BEGUN, NUMBERS_BEHIND, OUT_OF_BOUNDS, PRIME, PRIMES, TIMES, ask,
 )
 
 NO_PRIMES = [n for n in range(0, 130) if n not in PRIMES]
@@ -94,9 +93,10 @@ class BeforeBeginTest(unittest.TestCase):
         self.assertEqual(ask((PRIME, 7), (TIMES, 7)), [NOT_BEGUN, NOT_BEGUN])
 
     def test_begun_once_none_is_refused_so(self):
-        calls = [(PRIME, 2), (PROD, 2), (TIMES, 2), (REST, 2), (LEAST, 2), (NOUGHTS, 2, 2)]
-        told = ask((BEGIN, 2), (BEGIN, 4), *calls)
-        self.assertEqual(told, [[2], [-22], [2], [2], [1], [1], [4, 3], [1]])
+        told = ask((BEGIN, 2), (BEGIN, 4), *self.calls(2))
+        self.assertEqual(told, [
+            [2], [-22], [2], [2], [1], [1], [4, 3], [1], [1], [0], [1, 2], [0], [1, 2, 1], [1, 0, 1], [2],
+        ])
 
 
 if __name__ == "__main__":
